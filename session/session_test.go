@@ -262,4 +262,13 @@ func TestMemory(t *testing.T) {
 	if !same(l, full(1, 2, 3)) || l[:4][3].Client != 0 {
 		t.Errorf("%v", l)
 	}
+	// An empty list of hits has memory, too.
+	r := api.Reply{Hits: make([]api.Hit, 0, 4)}
+	d, _ := session.Done(l, 10, 5, r, 5)
+	_ = append(d[0].Reply.Hits, api.Hit{ID: "other"})
+	again, _, _ := session.Begin([]api.Session{{Client: 1, Seq: 1, Reply: r}}, 1, 1)
+	_ = append(again.Hits, api.Hit{ID: "other"})
+	if r.Hits[:1][0].ID != "" {
+		t.Errorf("the reply's hits are shared")
+	}
 }

@@ -177,6 +177,13 @@ func TestLimit(t *testing.T) {
 	if l, e := wire.Get(plainPut([]string{fits + "x"})); len(l) != 0 || e != api.ErrForm {
 		t.Errorf("Get of a byte more: %d strings, %v", len(l), e)
 	}
+	// The number of a string's length has a byte more from 128 on.
+	if b, e := wire.Put(fits[:api.MaxFile-6-128], fits[:128]); len(b) != api.MaxFile || e != api.OK {
+		t.Errorf("Put of two strings: %d bytes, %v", len(b), e)
+	}
+	if b, e := wire.Put(fits[:api.MaxFile-5-128], fits[:128]); len(b) != 0 || e != api.ErrLimit {
+		t.Errorf("Put of two strings and a byte more: %d bytes, %v", len(b), e)
+	}
 	empty := make([]string, api.MaxFile-3)
 	if b, e := wire.Put(empty...); len(b) != api.MaxFile || e != api.OK {
 		t.Errorf("Put of empty strings: %d bytes, %v", len(b), e)

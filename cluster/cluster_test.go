@@ -12,7 +12,7 @@ import (
 )
 
 func show(a any) string {
-	return fmt.Sprintf("%+q", a)
+	return fmt.Sprintf("%+v %+q", a, a)
 }
 
 func run(t *testing.T, n int, seed uint64, l ...api.Act) api.Report {
@@ -170,8 +170,8 @@ func TestFunction(t *testing.T) {
 	}
 }
 
-// P29.1: the first seeds: the first to lead is who has the shortest timeout.
-func TestSeeds(t *testing.T) {
+// timeouts are the first ones of three nodes, by the seeds that P29.1 gives them.
+func timeouts(seed uint64) []int {
 	next := func(s uint64) uint64 {
 		if s == 0 {
 			s = 0x9e3779b97f4a7c15
@@ -180,25 +180,51 @@ func TestSeeds(t *testing.T) {
 		s ^= s >> 7
 		return s ^ s<<17
 	}
+	var l []int
+	for range 3 {
+		seed = next(seed)
+		l = append(l, 10+int(next(seed)%10))
+	}
+	return l
+}
+
+// P29.1, P29.2: the first seeds: who has the shortest timeout asks first, and leads when the votes are there, two units of time later.
+func TestSeeds(t *testing.T) {
+	clear := 0
 	for seed := range uint64(200) {
-		s, first, best, ties := seed, 0, 100, 0
-		for id := 1; id <= 3; id++ {
-			s = next(s)
-			timeout := 10 + int(next(s)%10)
-			if timeout == best {
-				ties++
-			}
-			if timeout < best {
-				first, best, ties = id, timeout, 0
-			}
-		}
-		r := run(t, 3, seed, ticks(best-1))
-		if len(r.Leaders) != 0 {
+		l := timeouts(seed)
+		best := slices.Min(l)
+		first := slices.Index(l, best) + 1
+		if r := run(t, 3, seed, ticks(best+1)); len(r.Leaders) != 0 {
 			t.Fatalf("seed %d: a leader too early", seed)
 		}
-		// A round there and back, before anyone else can have asked.
-		if r = run(t, 3, seed, ticks(best+2)); ties == 0 && len(r.Leaders) > 0 && r.Leaders[0] != (api.Lead{Term: 1, Node: first}) {
+		slices.Sort(l)
+		if l[1] < best+2 {
+			continue
+		}
+		clear++
+		if r := run(t, 3, seed, ticks(best+2)); show(r.Leaders) != show([]api.Lead{{Term: 1, Node: first}}) {
 			t.Fatalf("seed %d: %+v, not node %d", seed, r.Leaders, first)
+		}
+	}
+	if clear < 50 {
+		t.Errorf("only %d clear elections", clear)
+	}
+}
+
+// T5: nodes that start again and again find a leader each time.
+func TestRestarts(t *testing.T) {
+	for seed := range uint64(40) {
+		acts := []api.Act{ticks(100)}
+		for i := range 8 {
+			acts = append(acts, crash(1), ticks(int(seed)%7*i), crash(2), start(1), ticks(i*5), start(2), ticks(150))
+			r := run(t, 2, seed, acts...)
+			l := r.Leaders[len(r.Leaders)-1].Node
+			acts = append(acts, ask(l, open()), ticks(20))
+			r = run(t, 2, seed, acts...)
+			if c := r.Calls[len(r.Calls)-1]; c.Till == 0 {
+				t.Fatalf("seed %d, start %d: %+v", seed, i, c)
+			}
 		}
 	}
 }
@@ -278,8 +304,35 @@ func TestArm(t *testing.T) {
 			t.Fatalf("arm %d: %d documents, then %+v", n, before, last)
 		}
 	}
-	if r := run(t, 1, 1, append(acts, arm(1, 0), ticks(5), ask(1, open()))...); show(r.States) != show(alive.States) || len(r.Calls) != 1 {
-		t.Errorf("off at once: %+v", r)
+	for _, n := range []int{0, 5} {
+		if r := run(t, 1, 1, append(acts, arm(1, 0), ticks(n), ask(1, open()))...); show(r.States) != show(alive.States) || len(r.Calls) != 1 {
+			t.Errorf("off at once: %+v", r)
+		}
+	}
+}
+
+// P29.1: the picks of the last ActArm say what is found after it.
+func TestArmPicks(t *testing.T) {
+	differ := 0
+	for n := 1; n < 12; n++ {
+		after := func(arms ...api.Act) int {
+			acts := append([]api.Act{ticks(20), ask(1, open()), ticks(1)}, arms...)
+			r := run(t, 1, 1, append(acts, ask(1, add(2, 1, "a", "x")), start(1), ticks(40), ask(1, search("x")), ticks(1))...)
+			return r.Calls[len(r.Calls)-1].Reply.N
+		}
+		lost, found := after(arm(1, n)), after(arm(1, n, 1, 1, 1, 1))
+		if lost > found {
+			t.Errorf("arm %d: %d, %d", n, lost, found)
+		}
+		if lost < found {
+			differ++
+		}
+		if after(arm(1, 100, 1, 1, 1, 1), arm(1, n)) != lost || after(arm(1, 100), arm(1, n, 1, 1, 1, 1)) != found {
+			t.Errorf("arm %d: the picks are not those of the last ActArm", n)
+		}
+	}
+	if differ == 0 {
+		t.Errorf("the picks make no difference")
 	}
 }
 
@@ -328,5 +381,14 @@ func TestFirsts(t *testing.T) {
 	r = run(t, 3, 2, acts...)
 	if before := run(t, 3, 2, ticks(100)); show(r.Logs) != show(before.Logs) || show(r.States) != show(before.States) {
 		t.Errorf("%+v", r.Logs)
+	}
+	for range 40 {
+		acts = append(acts, ask(l, open()), ticks(4))
+	}
+	acts = append(acts, ticks(20))
+	before := run(t, 3, 2, acts...)
+	r = run(t, 3, 2, append(acts, ask(l, open()), ask(l, open()))...)
+	if before.Firsts[l-1] == 1 || show(r.Logs) != show(before.Logs) || show(r.Firsts) != show(before.Firsts) {
+		t.Errorf("behind a snapshot: %+v, not %+v", r.Logs, before.Logs)
 	}
 }

@@ -92,7 +92,7 @@ func TestCheck(t *testing.T) {
 	for i, l := range invalidLogs() {
 		index, term, b := entries.Last(l)
 		at, c := entries.Term(l, -5)
-		m1, d := entries.Append(l, list(9, 1))
+		m1, d := entries.Append(l, nil)
 		m2, f := entries.Cut(l, 0)
 		s, g := entries.Slice(l, -7, 1)
 		m3, miss, h := entries.Merge(l, 0, 0, nil)
@@ -283,7 +283,7 @@ func TestMerge(t *testing.T) {
 func TestMergeKeeps(t *testing.T) {
 	l := logOf(0, 0, 1, 1)
 	es := list(1, 1, 1, 1)
-	es[0].Data = "other"
+	es[0].Data, es[1].Data = "other", "another"
 	m, miss, e := entries.Merge(l, 0, 0, es)
 	if want := logOf(0, 0, 1, 1, 1); !sameLog(m, want) || miss || e != api.OK {
 		t.Errorf("%v, %v, %v", m, miss, e)

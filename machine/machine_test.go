@@ -15,7 +15,12 @@ const end = 1 << 40
 
 // same holds two values against each other; a nil list is an empty one.
 func same(a, b any) bool {
-	return fmt.Sprintf("%+q", a) == fmt.Sprintf("%+q", b)
+	return show(a) == show(b)
+}
+
+// show tells numbers as numbers, and texts so that none looks like two.
+func show(a any) string {
+	return fmt.Sprintf("%+v %+q", a, a)
 }
 
 func build(t *testing.T, s api.State) *machine.Machine {

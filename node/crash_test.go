@@ -24,6 +24,7 @@ func script(t *testing.T) []api.Rpc {
 		{Kind: api.AskAppend, Term: 1, Entries: entries(t, 1, 8, 1), Commit: 2},
 		{Kind: api.AskAppend, Term: 2, Index: 8, LogTerm: 1, Commit: 4},
 		{Kind: api.AskAppend, Term: 3, Index: 6, LogTerm: 1, Commit: 6, Entries: other},
+		{Kind: api.AskVote, Term: 4, Index: 8, LogTerm: 3},
 		{Kind: api.AskVote, Term: 4, Index: 9, LogTerm: 3},
 		{Kind: api.AskAppend, Term: 4, Index: 6, LogTerm: 1, Commit: 6, Entries: entries(t, 7, 20, 4)},
 		{Kind: api.AskAppend, Term: 4, Index: 20, LogTerm: 4, Commit: 20, Entries: entries(t, 21, 36, 4)},

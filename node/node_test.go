@@ -24,7 +24,7 @@ func same(a, b any) bool {
 }
 
 func show(a any) string {
-	return fmt.Sprintf("%+q", a)
+	return fmt.Sprintf("%+v %+q", a, a)
 }
 
 func newDisk(t *testing.T, files []api.File) *disk.Disk {
@@ -315,6 +315,13 @@ func TestFollower(t *testing.T) {
 		t.Errorf("%+v, %+v", s, out)
 	}
 	if out := take(t, n, d, api.Rpc{Kind: api.AskVote, Term: 9, Index: 8, LogTerm: 3}); len(out) != 1 || !out[0].Ok || n.Raft().Vote != 1 || n.Raft().Term != 9 {
+		t.Errorf("%+v", out)
+	}
+	// A vote in a term that is known already.
+	if out := take(t, n, d, api.Rpc{Kind: api.AskVote, Term: 10, Index: 7, LogTerm: 3}); len(out) != 1 || out[0].Ok || n.Raft().Vote != 0 || n.Raft().Term != 10 {
+		t.Errorf("%+v", out)
+	}
+	if out := take(t, n, d, api.Rpc{Kind: api.AskVote, Term: 10, Index: 8, LogTerm: 3}); len(out) != 1 || !out[0].Ok || n.Raft().Vote != 1 {
 		t.Errorf("%+v", out)
 	}
 	before := n.Raft()

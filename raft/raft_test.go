@@ -22,7 +22,7 @@ func same(a, b any) bool {
 }
 
 func show(a any) string {
-	return fmt.Sprintf("%+q", a)
+	return fmt.Sprintf("%+v %+q", a, a)
 }
 
 // list returns entries from an index on, with these terms.
@@ -147,6 +147,7 @@ func validStates() []api.Raft {
 		change(follower(), func(r *api.Raft) { r.Snap, r.Commit = "", 3 }),
 		change(follower(), func(r *api.Raft) { r.Part, r.PartOf = strings.Repeat("x", api.MaxSnap), maxBase }),
 		change(follower(), func(r *api.Raft) { r.PartOf = 1 }),
+		change(follower(), func(r *api.Raft) { r.Log, r.Commit, r.Snap = logOf(1, 2, 2), 1, "x" }),
 		change(leader(), func(r *api.Raft) { r.Reads = reads }),
 		change(leader(), func(r *api.Raft) { r.Reads = slices.Repeat(reads[1:], api.MaxReads) }),
 		change(leader(), func(r *api.Raft) { r.Next, r.Match, r.Sent = []int{1, 1, 8}, []int{0, 7, 7}, []int{8, 0, 8} }),
@@ -195,6 +196,9 @@ func invalidStates() []api.Raft {
 		func(r *api.Raft) { r.Match = leader().Match },
 		func(r *api.Raft) { r.Sent = leader().Sent },
 		func(r *api.Raft) { r.Reads = []api.Read{{ID: 1}} },
+		func(r *api.Raft) { r.Next, r.Match = leader().Next, leader().Match },
+		func(r *api.Raft) { r.Match, r.Sent = leader().Match, leader().Sent },
+		func(r *api.Raft) { r.Sent, r.Reads = leader().Sent, make([]api.Read, 3) },
 	} {
 		add(follower(), f)
 		add(candidate(), f)
@@ -611,6 +615,7 @@ func TestTellSnap(t *testing.T) {
 	takes(t, "more than there is", l, tell(3, 9), nothing)
 	takes(t, "another snapshot", l, tell(4, 5), nothing)
 	takes(t, "an older snapshot", l, tell(2, 5), nothing)
+	takes(t, "the snapshot ends where the next entry is", change(l, func(r *api.Raft) { r.Next[2] = 3 }), tell(3, 5), func(r *api.Raft) { r.Sent[2] = 5 }, part(5))
 	takes(t, "not needed any more", change(l, func(r *api.Raft) { r.Next[2] = 4 }), tell(3, 5), nothing)
 	takes(t, "a follower", follower(), tell(3, 5), nothing)
 	takes(t, "a candidate", candidate(), tell(3, 5), nothing)

@@ -19,7 +19,12 @@ const (
 
 // same holds two values against each other; a nil list is an empty one.
 func same(a, b any) bool {
-	return fmt.Sprintf("%+q", a) == fmt.Sprintf("%+q", b)
+	return show(a) == show(b)
+}
+
+// show tells numbers as numbers, and texts so that none looks like two.
+func show(a any) string {
+	return fmt.Sprintf("%+v %+q", a, a)
 }
 
 func sameLog(a, b api.Log) bool {
@@ -356,12 +361,11 @@ func crashed(t *testing.T, d *disk.Disk, picks []int, allowed []api.Log, what st
 		if e == api.OK {
 			// The next step of the same time: what was opened goes on.
 			index, term := last(w.Log())
-			before := w.Log()
 			es := []api.Entry{{Index: index + 1, Term: term, Data: noughts(200)}, {Index: index + 2, Term: term}}
 			ok := run(t, w, []step{{kind: 0, entries: es}, {kind: 1, i: index + 1}, {kind: 3}, {kind: 0, entries: es[1:]}})
 			for pick := range 12 {
 				got := open(t, newDisk(t, again.Crash([]int{pick, pick}))).Log()
-				if !among(got, append(ok, before)) {
+				if !among(got, ok) {
 					t.Fatalf("%s, picks %v, off at %d, then pick %d: found %s", what, picks, n, pick, brief(got))
 				}
 			}
@@ -455,12 +459,76 @@ func TestCrashesOfGreatLogs(t *testing.T) {
 			if !among(found, allowed) {
 				t.Fatalf("off at %d, pick %d: found %s", n, p, brief(found))
 			}
-			if got := open(t, again).Log(); !sameLog(got, found) {
+			w := open(t, again)
+			if got := w.Log(); !sameLog(got, found) {
 				t.Fatalf("off at %d, pick %d: opened again %s", n, p, brief(got))
+			}
+			if p == 5 {
+				goOn(t, w, again, fmt.Sprintf("off at %d", n))
 			}
 		}
 		if d.Calls() < n {
 			break
+		}
+	}
+}
+
+// goOn fills a log and cuts it, until it is written anew, and looks at what is durable then.
+func goOn(t *testing.T, w *wal.Wal, d *disk.Disk, what string) {
+	t.Helper()
+	first, term := last(w.Log())
+	l := w.Log()
+	for range 3 {
+		var es []api.Entry
+		for k := range min(40, api.MaxEntries-len(l.Entries)) {
+			es = append(es, api.Entry{Index: first + 1 + k, Term: term, Data: strings.Repeat("z", api.MaxEntry-k)})
+		}
+		for _, s := range []step{{kind: 0, entries: es}, {kind: 1, i: first}, {kind: 0, entries: es[:len(es)/2]}, {kind: 3}, {kind: 1, i: first}} {
+			if e := s.do(w); e != api.OK {
+				t.Fatalf("%s: went on: %v", what, e)
+			}
+			before := l
+			l = s.plain(l)
+			if s.kind != 3 {
+				continue
+			}
+			if got := open(t, newDisk(t, d.Crash(nil))).Log(); !sameLog(got, before) {
+				t.Fatalf("%s: went on to %s, not %s", what, brief(got), brief(before))
+			}
+		}
+	}
+}
+
+// R1: whatever stands in the files, nothing panics.
+func TestGarbage(t *testing.T) {
+	c := chance(77)
+	d := newDisk(t, nil)
+	w, l := open(t, d), api.Log{}
+	for range 60 {
+		s := c.step(l)
+		must(t, "a step", s.do(w))
+		l = s.plain(l)
+	}
+	must(t, "Sync", w.Sync())
+	for range 3000 {
+		files := d.Crash(nil)
+		for i := range files {
+			b := files[i].Data
+			for range c.below(6) {
+				if len(b) > 0 {
+					b[c.below(len(b))] = byte(c.below(256))
+				}
+			}
+			if c.below(4) == 0 {
+				b = b[:c.below(len(b)+1)]
+			}
+			files[i].Data = b
+		}
+		again := newDisk(t, files)
+		if w, e := wal.Open(again); e == api.OK {
+			index, term := last(w.Log())
+			w.Append([]api.Entry{{Index: index + 1, Term: term}})
+			w.Sync()
 		}
 	}
 }
@@ -549,8 +617,10 @@ func TestNoRoom(t *testing.T) {
 	if e := w.Append(list(1, 1)); e != api.ErrFull {
 		t.Errorf("Append: %v", e)
 	}
-	if e := w.Append(list(1, 1)); e != api.ErrPower || len(w.Log().Entries) != 0 {
-		t.Errorf("Append again: %v", e)
+	for i, e := range []api.Errno{w.Append(list(1, 1)), w.Sync(), w.Cut(0), w.Cut(-1), w.Drop(1, 1), w.Append(nil)} {
+		if e != api.ErrPower || len(w.Log().Entries) != 0 {
+			t.Errorf("call %d after it: %v", i, e)
+		}
 	}
 }
 

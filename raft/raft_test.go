@@ -147,6 +147,7 @@ func validStates() []api.Raft {
 		change(follower(), func(r *api.Raft) { r.Snap, r.Commit = "", 3 }),
 		change(follower(), func(r *api.Raft) { r.Part, r.PartOf = strings.Repeat("x", api.MaxSnap), maxBase }),
 		change(follower(), func(r *api.Raft) { r.PartOf = 1 }),
+		change(follower(), func(r *api.Raft) { r.Part, r.PartOf = "x", 1 }),
 		change(follower(), func(r *api.Raft) { r.Log, r.Commit, r.Snap = logOf(1, 2, 2), 1, "x" }),
 		change(leader(), func(r *api.Raft) { r.Reads = reads }),
 		change(leader(), func(r *api.Raft) { r.Reads = slices.Repeat(reads[1:], api.MaxReads) }),

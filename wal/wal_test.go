@@ -459,12 +459,12 @@ func TestCrashesOfGreatLogs(t *testing.T) {
 			if !among(found, allowed) {
 				t.Fatalf("off at %d, pick %d: found %s", n, p, brief(found))
 			}
-			w := open(t, again)
-			if got := w.Log(); !sameLog(got, found) {
+			if got := open(t, again).Log(); !sameLog(got, found) {
 				t.Fatalf("off at %d, pick %d: opened again %s", n, p, brief(got))
 			}
 			if p == 5 {
-				goOn(t, w, again, fmt.Sprintf("off at %d", n))
+				once := newDisk(t, files)
+				goOn(t, open(t, once), once, fmt.Sprintf("off at %d", n))
 			}
 		}
 		if d.Calls() < n {

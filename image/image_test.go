@@ -2,7 +2,9 @@ package image_test
 
 import (
 	"bytes"
+	"encoding/binary"
 	"fmt"
+	"hash/crc32"
 	"slices"
 	"strings"
 	"testing"
@@ -10,6 +12,7 @@ import (
 	"lectern/api"
 	"lectern/image"
 	"lectern/machine"
+	"lectern/wire"
 )
 
 const end = 1 << 40
@@ -186,6 +189,43 @@ func TestMachines(t *testing.T) {
 		if x, y := a.Search("x", 10), b.Search("x", 10); !same(x, y) || !same(a.State(), b.State()) {
 			t.Errorf("after %v: %v, %v", c, x, y)
 		}
+	}
+}
+
+// sealed puts a checksum behind bytes, as an encoding may have it.
+func sealed(b []byte) []byte {
+	return binary.LittleEndian.AppendUint32(slices.Clone(b), crc32.ChecksumIEEE(b))
+}
+
+// P17.1: a right checksum is not enough.
+func TestRightChecksums(t *testing.T) {
+	takesOwn(t, sealed(nil))
+	for _, s := range states() {
+		b := encode(t, s)
+		b = b[:len(b)-4]
+		for i := 0; i < len(b); i += 1 + len(b)/60 {
+			takesOwn(t, sealed(b[:i]))
+			for x := range 256 {
+				d := slices.Clone(b)
+				d[i] = byte(x)
+				takesOwn(t, sealed(d))
+				takesOwn(t, sealed(slices.Insert(slices.Clone(b), i, byte(x))))
+			}
+			takesOwn(t, sealed(slices.Delete(slices.Clone(b), i, i+1)))
+		}
+		takesOwn(t, sealed(append(slices.Clone(b), 0)))
+	}
+	words := []string{"", "\x00", "\x01", "\x02", "\x03", "\x04", "\x05", "\x06", "\x80", "\x81\x00", "\x80\x01", "\xff\xff\xff\xff\xff\xff\xff\xff\x7f", "\x01\x01"}
+	seed := uint64(3)
+	for range 20000 {
+		var l []string
+		seed = seed*6364136223846793005 + 1442695040888963407
+		for range seed >> 33 % 19 {
+			seed = seed*6364136223846793005 + 1442695040888963407
+			l = append(l, words[seed>>33%uint64(len(words))])
+		}
+		b, _ := wire.Put(l...)
+		takesOwn(t, sealed(b))
 	}
 }
 

@@ -2,13 +2,16 @@ package rpc_test
 
 import (
 	"bytes"
+	"encoding/binary"
 	"fmt"
+	"hash/crc32"
 	"slices"
 	"strings"
 	"testing"
 
 	"lectern/api"
 	"lectern/rpc"
+	"lectern/wire"
 )
 
 const (
@@ -257,6 +260,43 @@ func TestDecodeErrors(t *testing.T) {
 			}
 			takesOwn(t, d)
 		}
+	}
+}
+
+// sealed puts a checksum behind bytes, as an encoding may have it.
+func sealed(b []byte) []byte {
+	return binary.LittleEndian.AppendUint32(slices.Clone(b), crc32.ChecksumIEEE(b))
+}
+
+// P25.1: a right checksum is not enough.
+func TestRightChecksums(t *testing.T) {
+	takesOwn(t, sealed(nil))
+	for _, m := range messages()[:9] {
+		b := encode(t, m)
+		b = b[:len(b)-4]
+		for i := 0; i < len(b); i += 1 + len(b)/60 {
+			takesOwn(t, sealed(b[:i]))
+			for x := range 256 {
+				d := slices.Clone(b)
+				d[i] = byte(x)
+				takesOwn(t, sealed(d))
+				takesOwn(t, sealed(slices.Insert(slices.Clone(b), i, byte(x))))
+			}
+			takesOwn(t, sealed(slices.Delete(slices.Clone(b), i, i+1)))
+		}
+		takesOwn(t, sealed(append(slices.Clone(b), 0)))
+	}
+	words := []string{"", "\x00", "\x01", "\x02", "\x03", "\x04", "\x05", "\x06", "\x80", "\x81\x00", "\x80\x01", "\xff\xff\xff\xff\xff\xff\xff\xff\x7f", "\x01\x01"}
+	seed := uint64(3)
+	for range 20000 {
+		var l []string
+		seed = seed*6364136223846793005 + 1442695040888963407
+		for range seed >> 33 % 19 {
+			seed = seed*6364136223846793005 + 1442695040888963407
+			l = append(l, words[seed>>33%uint64(len(words))])
+		}
+		b, _ := wire.Put(l...)
+		takesOwn(t, sealed(b))
 	}
 }
 

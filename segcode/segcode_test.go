@@ -2,6 +2,8 @@ package segcode_test
 
 import (
 	"bytes"
+	"encoding/binary"
+	"hash/crc32"
 	"slices"
 	"strings"
 	"testing"
@@ -9,6 +11,7 @@ import (
 	"lectern/api"
 	"lectern/segcode"
 	"lectern/segment"
+	"lectern/wire"
 )
 
 func build(t *testing.T, d []api.Doc) *segment.Segment {
@@ -123,23 +126,55 @@ func TestErrors(t *testing.T) {
 	}
 }
 
-// P11.1: whatever is taken is the encoding of what it is taken for.
-func TestChanged(t *testing.T) {
-	s := uint64(1)
+// takesOwn checks that bytes are refused, or are the encoding of what they are taken for.
+func takesOwn(t *testing.T, b []byte) {
+	t.Helper()
+	s, e := segcode.Decode(b)
+	if e == api.OK {
+		if again, e := segcode.Encode(s); e != api.OK || !bytes.Equal(again, b) {
+			t.Errorf("Decode(%x): not its encoding", b)
+		}
+		return
+	}
+	if s != nil || e != api.ErrForm {
+		t.Errorf("Decode(%x): %v, %v", b, s, e)
+	}
+}
+
+// sealed puts a checksum behind bytes, as an encoding may have it.
+func sealed(b []byte) []byte {
+	return binary.LittleEndian.AppendUint32(slices.Clone(b), crc32.ChecksumIEEE(b))
+}
+
+// P11.1: a right checksum is not enough.
+func TestRightChecksums(t *testing.T) {
+	takesOwn(t, sealed(nil))
 	for _, d := range lists[:7] {
 		b := encode(t, d)
-		for range 2000 {
-			c := slices.Clone(b)
-			for range 3 {
-				s = s*6364136223846793005 + 1442695040888963407
-				c[int(s>>33)%len(c)] = byte(s >> 56)
+		b = b[:len(b)-4]
+		for i := 0; i < len(b); i += 1 + len(b)/60 {
+			takesOwn(t, sealed(b[:i]))
+			for x := range 256 {
+				d := slices.Clone(b)
+				d[i] = byte(x)
+				takesOwn(t, sealed(d))
+				takesOwn(t, sealed(slices.Insert(slices.Clone(b), i, byte(x))))
 			}
-			if g, e := segcode.Decode(c); e == api.OK {
-				if again, _ := segcode.Encode(g); !bytes.Equal(again, c) {
-					t.Errorf("Decode(%x): not its encoding", c)
-				}
-			}
+			takesOwn(t, sealed(slices.Delete(slices.Clone(b), i, i+1)))
 		}
+		takesOwn(t, sealed(append(slices.Clone(b), 0)))
+	}
+	words := []string{"", "\x00", "\x01", "\x02", "\x03", "\x04", "\x05", "\x06", "\x80", "\x81\x00", "\x80\x01", "\xff\xff\xff\xff\xff\xff\xff\xff\x7f", "\x01\x01"}
+	seed := uint64(3)
+	for range 20000 {
+		var l []string
+		seed = seed*6364136223846793005 + 1442695040888963407
+		for range seed >> 33 % 19 {
+			seed = seed*6364136223846793005 + 1442695040888963407
+			l = append(l, words[seed>>33%uint64(len(words))])
+		}
+		b, _ := wire.Put(l...)
+		takesOwn(t, sealed(b))
 	}
 }
 

@@ -243,8 +243,13 @@ func TestNoRoom(t *testing.T) {
 	for i := range api.MaxFiles {
 		others = append(others, api.File{Name: fmt.Sprintf("other-%02d", i)})
 	}
-	d := newDisk(t, others)
-	n := open(t, d, 2, 3)
+	n, e := node.Open(newDisk(t, others), 2, 3, 7)
+	if e == api.ErrFull && n == nil {
+		return
+	}
+	if e != api.OK {
+		t.Fatalf("Open: %v, %v", n, e)
+	}
 	before := n.Raft()
 	for range 2 {
 		if out, e := n.Take(api.Rpc{Kind: api.AskVote, From: 1, To: 2, Term: 1}); e != api.ErrPower || len(out) > 0 || show(n.Raft()) != show(before) {

@@ -273,7 +273,8 @@ func TestManyHits(t *testing.T) {
 
 // P13.3: a document that is deleted and added again stands where it did, whatever was sealed.
 func TestAgain(t *testing.T) {
-	s, p := &shelf.Shelf{}, plain{}
+	s, _ := shelf.New()
+	p := plain{}
 	for i := range 40 {
 		d := api.Doc{ID: "a", Text: strings.Repeat("ab", i)}
 		if e := s.Add(d); e != p.add(d) {
